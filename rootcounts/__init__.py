@@ -1,0 +1,1 @@
+"""Real root counting with Sturm chains, exact over rational numbers."""

@@ -1,0 +1,50 @@
+"""The ranges that the calls check."""
+
+from rootcounts.errors import NoSuchSlot, OutOfRange
+
+SLOT_COUNT = 4
+MOST_COEFFICIENTS = 9
+GREATEST_NUMERATOR = 1000000
+GREATEST_DENOMINATOR = 1000
+
+
+def check_slot(slot):
+    """Refuse a number that no slot has."""
+    if slot < 0 or slot >= SLOT_COUNT:
+        raise NoSuchSlot()
+
+
+def check_numerator(numerator):
+    """Refuse a numerator of a coefficient or an argument that is too large."""
+    if abs(numerator) > GREATEST_NUMERATOR:
+        raise OutOfRange()
+
+
+def check_denominator(denominator):
+    """Refuse a denominator that isn't 1 to 1000."""
+    if denominator < 1 or denominator > GREATEST_DENOMINATOR:
+        raise OutOfRange()
+
+
+def check_argument(numerator, denominator):
+    """Refuse an argument that is outside its range."""
+    check_numerator(numerator)
+    check_denominator(denominator)
+
+
+def check_coefficients(denominator, coefficients):
+    """Refuse what set_polynomial can't store."""
+    # zeros at the end count here: the range is that of the list handed in
+    if len(coefficients) > MOST_COEFFICIENTS:
+        raise OutOfRange()
+    check_denominator(denominator)
+    for numerator in coefficients:
+        check_numerator(numerator)
+
+
+def check_interval(low_numerator, low_denominator, high_numerator, high_denominator):
+    """Refuse ends that are outside their range or leave no interval between them."""
+    check_argument(low_numerator, low_denominator)
+    check_argument(high_numerator, high_denominator)
+    if high_numerator * low_denominator <= low_numerator * high_denominator:
+        raise OutOfRange()

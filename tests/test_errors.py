@@ -1,0 +1,142 @@
+"""Each error of the calls 0 to 10, their order, and that they change no slot."""
+
+import unittest
+
+from helper import CallTest
+
+NO_SLOTS = (4, 5, 7, 255, 256, 65536, 2147483648, 4294967292, 4294967295)
+
+# behind the slot: arguments that the document refuses, then such that it takes
+BAD_ARGUMENTS = (
+    (1000001, 1), (-1000001, 1), (2147483647, 1), (-2147483648, 1), (1000001, 1000), (-1000001, 1000),
+    (0, 0), (1, 0), (-1, 0), (1000000, 0), (0, 1001), (1, 1001), (-1, 1001), (1000000, 1001),
+    (2002, 1001), (2000000, 2000), (0, 4294967295), (-1, 4294967295), (1000001, 0), (-2147483648, 4294967295),
+)
+GOOD_ARGUMENTS = (
+    (1000000, 1), (-1000000, 1), (999999, 1), (0, 1), (0, 1000), (1, 1000), (-1, 1000), (1000000, 1000),
+    (-1000000, 1000), (999, 999),
+)
+BAD_SETTINGS = (
+    (0, []), (0, [1]), (1001, []), (1001, [1]), (4294967295, [1]),
+    (1, [0] * 10), (1, [1] * 10), (1, [1] * 9 + [0]), (1, [1] * 11), (1, [1] * 60), (1, [0] * 60),
+    (1, [1000001]), (1, [-1000001]), (1, [2147483647]), (1, [-2147483648]),
+    (1000, [1000001]), (1, [1000001, 0]), (1, [0, -1000001, 1]), (1, [0] * 8 + [1000001]),
+    (1, [0] * 8 + [-1000001]), (1, [1] * 7 + [1000001, 1]),
+    (0, [1000001] * 10), (1001, [-1000001] * 60),
+)
+BAD_INTERVALS = (
+    (0, 1, 0, 1), (1, 2, 1, 2), (1, 2, 2, 4), (2, 4, 1, 2), (-1, 2, -500, 1000), (0, 7, 0, 9),
+    (1, 1, 0, 1), (1, 2, 1, 3), (-1, 3, -1, 2), (1000, 1000, 999, 1000), (1000000, 1, 999999, 1),
+    (1000000, 1, -1000000, 1), (-999999, 1, -1000000, 1), (998, 999, 997, 998), (1000000, 1, 1000000, 1),
+    (-1000000, 1, -1000000, 1), (1, 1, -1, 1), (3, 2, 1, 1),
+)
+PLAIN_CALLS = ("degree", "count_distinct_roots", "count_roots", "is_real_rooted")
+POINT_CALLS = ("count_roots_up_to", "multiplicity")
+
+SETTINGS = [
+    (("create",), 0),
+    (("set_polynomial", 0, 1, [-2, 0, 1]), [3, -2, 1, 0, 1, 1, 1]),
+    (("set_polynomial", 1, 2, [3]), [1, 3, 2]),
+    (("set_polynomial", 2, 1, [0, 1]), [2, 0, 1, 1, 1]),
+    (("set_polynomial", 3, 1, [-1, -1]), [2, -1, 1, -1, 1]),
+]
+SLOTS_AS_SET = [(("get_polynomial", call[1]), answer) for call, answer in SETTINGS[1:]]
+MOST_ROWS = 100
+
+
+def bad_ends():
+    """Arguments of count_roots_between with a low or a high end that is outside its range."""
+    ends = [bad + (1000000, 1) for bad in BAD_ARGUMENTS]
+    ends += [(-1000000, 1) + bad for bad in BAD_ARGUMENTS]
+    ends += [bad + bad for bad in BAD_ARGUMENTS]
+    # both at once: an end outside its range, and high <= low
+    ends += [(0, 1, -1000001, 1), (1000001, 1, 0, 1), (5, 1, 1, 0), (1, 0, -5, 1), (1, 1001, 1, 1001)]
+    return ends
+
+
+class ErrorsTest(CallTest):
+    def expect_refused(self, calls, code, settings=SETTINGS, left=SLOTS_AS_SET):
+        """Every call is refused with the code and leaves all slots as they were."""
+        for start in range(0, len(calls), MOST_ROWS):
+            rows = [(call, code) for call in calls[start:start + MOST_ROWS]]
+            self.expect(*settings, *rows, *left)
+        for call in calls:
+            self.expect(*settings, (call, code), *left)
+
+    def expect_refused_on_zero(self, calls, code):
+        zeros = [(("get_polynomial", slot), 0) for slot in range(4)]
+        self.expect_refused(calls, code, settings=SETTINGS[:1], left=zeros)
+
+    def test_no_such_slot(self):
+        for slot in NO_SLOTS:
+            calls = [("set_polynomial", slot, 1, []), ("set_polynomial", slot, 1, [1, 2]), ("get_polynomial", slot)]
+            calls += [(name, slot) for name in PLAIN_CALLS]
+            calls += [("evaluate", slot, 0, 1), ("count_roots_between", slot, 0, 1, 1, 1)]
+            calls += [(name, slot, 0, 1) for name in POINT_CALLS]
+            self.expect_refused(calls, -2)
+            self.expect_refused_on_zero(calls, -2)
+
+    def test_no_such_slot_goes_ahead_of_ranges(self):
+        for slot in (4, 4294967295):
+            calls = [("set_polynomial", slot, *bad) for bad in BAD_SETTINGS]
+            for name in ("evaluate",) + POINT_CALLS:
+                calls += [(name, slot, *bad) for bad in BAD_ARGUMENTS]
+            calls += [("count_roots_between", slot, *bad) for bad in bad_ends() + list(BAD_INTERVALS)]
+            self.expect_refused(calls, -2)
+            self.expect_refused_on_zero(calls, -2)
+
+    def test_zero_polynomial(self):
+        calls = []
+        for slot in range(4):
+            calls += [(name, slot) for name in PLAIN_CALLS]
+            calls += [(name, slot, 0, 1) for name in POINT_CALLS]
+            calls += [("count_roots_between", slot, 0, 1, 1, 1)]
+        self.expect_refused_on_zero(calls, -33)
+
+    def test_zero_polynomial_goes_ahead_of_ranges(self):
+        calls = []
+        for name in POINT_CALLS:
+            calls += [(name, 3, *bad) for bad in BAD_ARGUMENTS]
+        calls += [("count_roots_between", 3, *bad) for bad in bad_ends() + list(BAD_INTERVALS)]
+        self.expect_refused_on_zero(calls, -33)
+
+    def test_settings_outside_their_ranges(self):
+        for slot in (0, 3):
+            self.expect_refused([("set_polynomial", slot, *bad) for bad in BAD_SETTINGS], -22)
+            self.expect_refused_on_zero([("set_polynomial", slot, *bad) for bad in BAD_SETTINGS], -22)
+
+    def test_arguments_outside_their_ranges(self):
+        for slot in range(4):
+            for name in ("evaluate",) + POINT_CALLS:
+                self.expect_refused([(name, slot, *bad) for bad in BAD_ARGUMENTS], -22)
+
+    def test_evaluate_checks_its_argument_on_the_zero_polynomial(self):
+        self.expect_refused_on_zero([("evaluate", 0, *bad) for bad in BAD_ARGUMENTS], -22)
+
+    def test_ends_outside_their_ranges(self):
+        for slot in range(4):
+            self.expect_refused([("count_roots_between", slot, *bad) for bad in bad_ends()], -22)
+
+    def test_no_interval_between_the_ends(self):
+        for slot in range(4):
+            self.expect_refused([("count_roots_between", slot, *bad) for bad in BAD_INTERVALS], -22)
+
+    def test_edges_that_are_taken(self):
+        for numerator, denominator in GOOD_ARGUMENTS:
+            # slot 1 holds the constant 3/2, which has no root
+            self.expect(
+                *SETTINGS,
+                (("evaluate", 1, numerator, denominator), [0, 3, 2]),
+                (("count_roots_up_to", 1, numerator, denominator), 0),
+                (("multiplicity", 1, numerator, denominator), 0),
+                (("count_roots_between", 1, -1000000, 1, 1000000, 1), [0, 0]),
+            )
+
+    def test_intervals_that_just_hold(self):
+        for ends in ((997, 998, 998, 999), (-998, 999, -997, 998), (999999, 1, 1000000, 1),
+                     (-1000000, 1, -999999, 1), (-1, 1000, 0, 1), (0, 1000, 1, 1000), (1, 3, 1, 2), (-1, 2, -1, 3)):
+            self.expect(*SETTINGS, (("count_roots_between", 1, *ends), [0, 0]))
+
+
+if __name__ == "__main__":
+    unittest.main()
