@@ -1,11 +1,13 @@
 """The ranges that the calls check."""
 
-from rootcounts.errors import NoSuchSlot, OutOfRange
+from rootcounts.errors import NoSuchSlot, OutOfRange, TooLarge
 
 SLOT_COUNT = 4
 MOST_COEFFICIENTS = 9
 GREATEST_NUMERATOR = 1000000
 GREATEST_DENOMINATOR = 1000
+GREATEST_BITS = 30
+GREATEST_POWER = 12
 
 
 def check_slot(slot):
@@ -48,3 +50,25 @@ def check_interval(low_numerator, low_denominator, high_numerator, high_denomina
     check_argument(high_numerator, high_denominator)
     if high_numerator * low_denominator <= low_numerator * high_denominator:
         raise OutOfRange()
+
+
+def check_bits(bits):
+    """Refuse a scale of roots that is too large."""
+    if bits > GREATEST_BITS:
+        raise OutOfRange()
+
+
+def check_max_power(max_power):
+    """Refuse a power of power sums that is too large."""
+    if max_power > GREATEST_POWER:
+        raise OutOfRange()
+
+
+def check_result(polynomial):
+    """Refuse a polynomial that is too large to be stored."""
+    limit = 10 ** 30
+    if len(polynomial) > MOST_COEFFICIENTS:
+        raise TooLarge()
+    for numerator, denominator in polynomial:
+        if abs(numerator) > limit or denominator > limit:
+            raise TooLarge()

@@ -35,3 +35,17 @@ class OutOfRange(Refusal):
 
     def __init__(self):
         Refusal.__init__(self, -22)
+
+
+class NoSuchRoot(Refusal):
+    """The polynomial has too few roots."""
+
+    def __init__(self):
+        Refusal.__init__(self, -34)
+
+
+class TooLarge(Refusal):
+    """The result has a degree, a numerator or a denominator that can't be stored."""
+
+    def __init__(self):
+        Refusal.__init__(self, -75)

@@ -3,8 +3,7 @@
 CREATE = 0
 SET_POLYNOMIAL = 1
 
-# at place n: how many numbers call n has behind its own number, without its row;
-# calls that aren't built yet stand here too, for before create they are answered
+# at place n: how many numbers call n has behind its own number, without its row
 PLAIN_NUMBERS = (0, 2, 1, 1, 3, 1, 1, 1, 5, 3, 3, 3, 1, 2, 3, 2, 3, 2, 1, 1, 1, 0)
 
 

@@ -56,9 +56,13 @@ def sign_changes(chain, point):
     return changes
 
 
-def count_layer(layer, low, high):
-    """Answer how many roots above low and at most high a layer has."""
-    chain = sturm_chain(layer)
+def layer_chains(polynomial):
+    """Answer the Sturm chains of the multiplicity layers, each beginning with its layer."""
+    return [sturm_chain(layer) for layer in multiplicity_layers(polynomial)]
+
+
+def count_on_chain(chain, low, high):
+    """Answer how many roots above low and at most high the first polynomial of a chain has."""
     # a root at either end needs no care: without multiple roots, a zero left
     # out at a root gives the same number of changes as just above that root
     return sign_changes(chain, low) - sign_changes(chain, high)
@@ -66,7 +70,7 @@ def count_layer(layer, low, high):
 
 def count_in_interval(polynomial, low, high):
     """Answer how many different roots have low < root <= high, and their number with multiplicity."""
-    counts = [count_layer(layer, low, high) for layer in multiplicity_layers(polynomial)]
+    counts = [count_on_chain(chain, low, high) for chain in layer_chains(polynomial)]
     # only a nonzero constant has no layer
     distinct = counts[0] if counts else 0
     return (distinct, sum(counts))

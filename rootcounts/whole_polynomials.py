@@ -23,10 +23,26 @@ def primitive_part(polynomial):
     return [coefficient // divisor for coefficient in polynomial]
 
 
+def with_positive_lead(polynomial):
+    """Answer the polynomial, or its negative, so that the last coefficient is above 0."""
+    if polynomial[-1] > 0:
+        return polynomial
+    return [-coefficient for coefficient in polynomial]
+
+
 def whole_derivative(polynomial):
     """Answer the derivative."""
     terms = [power * coefficient for power, coefficient in enumerate(polynomial)]
     return terms[1:]
+
+
+def whole_product(first, second):
+    """Answer the product of two nonzero polynomials."""
+    product = [0] * (len(first) + len(second) - 1)
+    for low, factor in enumerate(first):
+        for high, coefficient in enumerate(second):
+            product[low + high] += factor * coefficient
+    return product
 
 
 def scaled_value(polynomial, numerator, denominator):
@@ -79,3 +95,8 @@ def exact_quotient(dividend, divisor):
         for place, coefficient in enumerate(divisor):
             rest[shift + place] -= factor * coefficient
     return quotient
+
+
+def squarefree_part(polynomial):
+    """Answer a polynomial that has the same complex roots, each with multiplicity 1."""
+    return exact_quotient(polynomial, common_factor(polynomial, whole_derivative(polynomial)))

@@ -1,4 +1,4 @@
-"""What the tests share: calls written by name, and polynomials whose roots are known."""
+"""What the tests share: calls written by name, and the arithmetic that their answers are compared with."""
 
 import unittest
 from fractions import Fraction
@@ -88,6 +88,16 @@ def setting_call(slot, polynomial):
     return ("set_polynomial", slot, common, [int(rational * common) for rational in rationals])
 
 
+def building(slot, spare, factors):
+    """The calls that store the product of polynomials in a slot, with another slot for the factors."""
+    if not all(fits(factor) for factor in factors):
+        raise AssertionError(f"set_polynomial doesn't take one of {factors!r}")
+    calls = [setting_call(slot, factors[0])]
+    for factor in factors[1:]:
+        calls += [setting_call(spare, factor), ("multiply", slot, spare, slot)]
+    return calls
+
+
 def fits(polynomial):
     """Whether set_polynomial takes it."""
     name, slot, common, numerators = setting_call(0, polynomial)
@@ -125,6 +135,50 @@ def value(polynomial, point):
     return sum((Fraction(c) * Fraction(point) ** power for power, c in enumerate(polynomial)), Fraction(0))
 
 
+def trimmed(polynomial):
+    """The polynomial as a list of rationals, without zeros at the end."""
+    result = [Fraction(coefficient) for coefficient in polynomial]
+    while result and result[-1] == 0:
+        result.pop()
+    return result
+
+
+def derived(polynomial):
+    """The derivative."""
+    return trimmed([power * Fraction(c) for power, c in enumerate(polynomial)][1:])
+
+
+def divided(dividend, divisor):
+    """The quotient and the remainder of two polynomials."""
+    rest = trimmed(dividend)
+    quotient = [Fraction(0)] * max(0, len(rest) - len(divisor) + 1)
+    while len(rest) >= len(divisor):
+        shift = len(rest) - len(divisor)
+        quotient[shift] = rest[-1] / divisor[-1]
+        for place, coefficient in enumerate(divisor):
+            rest[shift + place] -= quotient[shift] * coefficient
+        rest = trimmed(rest)
+    return quotient, rest
+
+
+def monic(polynomial):
+    """The multiple with the last coefficient 1."""
+    return [Fraction(coefficient) / polynomial[-1] for coefficient in polynomial]
+
+
+def greatest_common(first, second):
+    """The monic greatest common divisor of two polynomials that aren't both zero."""
+    first, second = trimmed(first), trimmed(second)
+    while second:
+        first, second = second, divided(first, second)[1]
+    return monic(first)
+
+
+def without_multiple_roots(polynomial):
+    """The monic polynomial with the same complex roots, each once."""
+    return monic(divided(polynomial, greatest_common(polynomial, derived(polynomial)))[0])
+
+
 def between(low, high, slot=0):
     """The call count_roots_between for two rationals."""
     low = Fraction(low)
@@ -136,6 +190,48 @@ def at(name, point, slot=0):
     """A call that takes a slot and an argument."""
     point = Fraction(point)
     return (name, slot, point.numerator, point.denominator)
+
+
+def power_sums(polynomial, most):
+    """The power sums s(0) to s(most) of all complex roots: the traces of x^k modulo the polynomial."""
+    degree = len(polynomial) - 1
+    rests = [divided([0] * power + [1], polynomial)[1] + [Fraction(0)] * degree for power in range(most + degree)]
+    return [sum((rests[k + place][place] for place in range(degree)), Fraction(0)) for k in range(most + 1)]
+
+
+def characteristic(matrix):
+    """The coefficients of the characteristic polynomial, from the highest power."""
+    size = len(matrix)
+    coefficients = [Fraction(1)]
+    current = [[Fraction(0)] * size for row in range(size)]
+    for step in range(1, size + 1):
+        for row in range(size):
+            current[row][row] += coefficients[-1]
+        current = [[sum(matrix[row][k] * current[k][column] for k in range(size)) for column in range(size)]
+                   for row in range(size)]
+        coefficients.append(-sum(current[row][row] for row in range(size)) / step)
+    return coefficients
+
+
+def sign_changes(numbers):
+    """How often the sign changes, zeros left out."""
+    signs = [number > 0 for number in numbers if number != 0]
+    return len([None for first, second in zip(signs, signs[1:]) if first != second])
+
+
+def inertia(matrix):
+    """How many positive and negative eigenvalues a symmetric matrix has, by Descartes' rule."""
+    coefficients = characteristic(matrix)
+    turned = [-number if place % 2 else number for place, number in enumerate(coefficients)]
+    return sign_changes(coefficients), sign_changes(turned)
+
+
+def hermite(polynomial, weight):
+    """The inertia of Hermite's form with a polynomial weight of degree 0 or 1."""
+    degree = len(polynomial) - 1
+    sums = power_sums(polynomial, 2 * degree)
+    entries = [sum(Fraction(w) * sums[k + power] for power, w in enumerate(weight)) for k in range(2 * degree - 1)]
+    return inertia([[entries[row + column] for column in range(degree)] for row in range(degree)])
 
 
 class CallTest(unittest.TestCase):

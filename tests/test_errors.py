@@ -1,4 +1,4 @@
-"""Each error of the calls 0 to 10, their order, and that they change no slot."""
+"""Each error of the calls but -75, their order, and that they change no slot."""
 
 import unittest
 
@@ -30,8 +30,12 @@ BAD_INTERVALS = (
     (1000000, 1, -1000000, 1), (-999999, 1, -1000000, 1), (998, 999, 997, 998), (1000000, 1, 1000000, 1),
     (-1000000, 1, -1000000, 1), (1, 1, -1, 1), (3, 2, 1, 1),
 )
-PLAIN_CALLS = ("degree", "count_distinct_roots", "count_roots", "is_real_rooted")
+PLAIN_CALLS = ("degree", "count_distinct_roots", "count_roots", "is_real_rooted", "root_bound", "hermite_inertia",
+               "first_newton_violation")
 POINT_CALLS = ("count_roots_up_to", "multiplicity")
+BAD_BITS = (31, 32, 63, 64, 255, 256, 2147483648, 4294967295)
+BAD_POWERS = (13, 14, 15, 16, 255, 256, 2147483648, 4294967295)
+LARGE_PLACES = (2, 3, 8, 9, 255, 256, 65536, 2147483648, 4294967295)
 
 SETTINGS = [
     (("create",), 0),
@@ -85,13 +89,93 @@ class ErrorsTest(CallTest):
             self.expect_refused(calls, -2)
             self.expect_refused_on_zero(calls, -2)
 
+    def test_no_such_slot_in_each_place(self):
+        for missing in NO_SLOTS:
+            calls = [("root_floor", missing, 0, 0), ("power_sums", missing, 0)]
+            for slot in range(4):
+                calls += [(name, missing, slot) for name in ("squarefree", "derivative")]
+                calls += [(name, slot, missing) for name in ("squarefree", "derivative")]
+                for name in ("gcd", "multiply"):
+                    calls += [(name, missing, slot, 1), (name, slot, missing, 1), (name, slot, 1, missing)]
+                    calls += [(name, missing, missing, slot), (name, missing, slot, missing)]
+                    calls += [(name, slot, missing, missing)]
+            calls += [(name, missing, missing) for name in ("squarefree", "derivative")]
+            calls += [(name, missing, missing, missing) for name in ("gcd", "multiply")]
+            self.expect_refused(calls, -2)
+            # with the zero polynomial in every slot that there is, -33 would hold, too
+            self.expect_refused_on_zero(calls, -2)
+
+    def test_no_such_slot_goes_ahead_of_bits_and_powers(self):
+        calls = []
+        for slot in (4, 4294967295):
+            calls += [("root_floor", slot, k, bits) for k in (0, 2, 4294967295) for bits in BAD_BITS + (0, 30)]
+            calls += [("power_sums", slot, power) for power in BAD_POWERS]
+        self.expect_refused(calls, -2)
+        self.expect_refused_on_zero(calls, -2)
+
+    def test_no_such_slot_goes_ahead_of_too_large(self):
+        square = [("create",), ("set_polynomial", 0, 1, [1] * 6), ("set_polynomial", 3, 1, [5])]
+        calls = [("multiply", 0, 0, 4), ("multiply", 0, 4, 3), ("multiply", 4, 0, 3), ("gcd", 0, 0, 4)]
+        self.expect_refused(
+            calls, -2,
+            settings=[(square[0], 0), (square[1], [6] + [1, 1] * 6), (square[2], [1, 5, 1])],
+            left=[(("get_polynomial", 0), [6] + [1, 1] * 6), (("get_polynomial", 3), [1, 5, 1])],
+        )
+
     def test_zero_polynomial(self):
         calls = []
         for slot in range(4):
             calls += [(name, slot) for name in PLAIN_CALLS]
             calls += [(name, slot, 0, 1) for name in POINT_CALLS]
             calls += [("count_roots_between", slot, 0, 1, 1, 1)]
+            calls += [("root_floor", slot, k, bits) for k in (0, 4294967295) for bits in (0, 30)]
+            calls += [("power_sums", slot, power) for power in (0, 1, 12)]
+            calls += [("squarefree", slot, target) for target in range(4)]
+            calls += [("gcd", slot, second, target) for second in range(4) for target in range(4)]
         self.expect_refused_on_zero(calls, -33)
+
+    def test_zero_polynomial_goes_ahead_of_bits_and_powers(self):
+        calls = [("root_floor", 3, k, bits) for k in (0, 1, 4294967295) for bits in BAD_BITS]
+        calls += [("power_sums", 3, power) for power in BAD_POWERS]
+        self.expect_refused_on_zero(calls, -33)
+
+    def test_one_of_two_polynomials_is_zero(self):
+        for zero in range(4):
+            settings = list(SETTINGS)
+            settings[zero + 1] = (("set_polynomial", zero, 7, [0, 0]), 0)
+            left = list(SLOTS_AS_SET)
+            left[zero] = (("get_polynomial", zero), 0)
+            others = [slot for slot in range(4) if slot != zero]
+            calls = [("squarefree", zero, target) for target in range(4)]
+            calls += [("gcd", zero, other, target) for other in others for target in range(4)]
+            calls += [("gcd", other, zero, target) for other in others for target in range(4)]
+            calls += [("root_floor", zero, 0, 31), ("power_sums", zero, 13)]
+            calls += [(name, zero) for name in PLAIN_CALLS]
+            self.expect_refused(calls, -33, settings=settings, left=left)
+
+    def test_bits_outside_their_range(self):
+        calls = [("largest_roots", bits) for bits in BAD_BITS]
+        self.expect_refused_on_zero(calls, -22)
+        for slot in range(4):
+            calls += [("root_floor", slot, 0, bits) for bits in BAD_BITS]
+        self.expect_refused(calls, -22)
+
+    def test_bits_go_ahead_of_the_root(self):
+        calls = []
+        for slot in range(4):
+            calls += [("root_floor", slot, k, bits) for k in LARGE_PLACES for bits in BAD_BITS]
+        self.expect_refused(calls, -22)
+
+    def test_max_power_outside_its_range(self):
+        self.expect_refused([("power_sums", slot, power) for slot in range(4) for power in BAD_POWERS], -22)
+
+    def test_no_such_root(self):
+        calls = []
+        for slot, roots in ((0, 2), (1, 0), (2, 1), (3, 1)):
+            for k in (roots,) + LARGE_PLACES:
+                calls += [("root_floor", slot, k, bits) for bits in (0, 1, 29, 30)]
+        self.expect_refused(calls, -34)
+        self.expect_refused(calls, -34)
 
     def test_zero_polynomial_goes_ahead_of_ranges(self):
         calls = []
@@ -130,6 +214,22 @@ class ErrorsTest(CallTest):
                 (("count_roots_up_to", 1, numerator, denominator), 0),
                 (("multiplicity", 1, numerator, denominator), 0),
                 (("count_roots_between", 1, -1000000, 1, 1000000, 1), [0, 0]),
+            )
+
+    def test_bits_powers_and_roots_that_are_taken(self):
+        for bits in (0, 30):
+            self.expect(
+                *SETTINGS,
+                (("root_floor", 2, 0, bits), [0, 0]),
+                (("root_floor", 3, 0, bits), [0, -2 ** bits]),
+                (("root_floor", 0, 1, bits), [0, 1 if bits == 0 else 1518500249]),
+                (("largest_roots", bits), [3, 0, 1 if bits == 0 else 1518500249, 2, 0, 3, -2 ** bits]),
+            )
+        for power in (0, 12):
+            self.expect(
+                *SETTINGS,
+                (("power_sums", 1, power), [power + 1] + [0, 1] * (power + 1)),
+                (("power_sums", 3, power), [power + 1, 1, 1] + [-1, 1, 1, 1] * (power // 2)),
             )
 
     def test_intervals_that_just_hold(self):

@@ -53,6 +53,19 @@ SESSION = [
     ("count_roots_up_to", 0, 0, 1),
     ("multiplicity", 2, 7, 7),
     ("multiplicity", 7, 7, 7),
+    ("root_floor", 0, 0, 1),
+    ("root_floor", 0, 2, 1),
+    ("root_bound", 0),
+    ("squarefree", 2, 3),
+    ("gcd", 2, 3, 1),
+    ("derivative", 2, 2),
+    ("multiply", 0, 3, 3),
+    ("multiply", 0, 0, 4),
+    ("power_sums", 0, 2),
+    ("hermite_inertia", 3),
+    ("first_newton_violation", 3),
+    ("largest_roots", 1),
+    ("summary",),
 ]
 
 SESSION_REPLY = [
@@ -73,6 +86,19 @@ SESSION_REPLY = [
     1, 1,
     1, 2,
     1, -2,
+    2, 0, -3,
+    1, -34,
+    1, 3,
+    5, 2, -1, 1, 1, 1,
+    5, 2, -1, 1, 1, 1,
+    5, 2, -2, 1, 2, 1,
+    9, 4, 2, 1, -2, 1, -1, 1, 1, 1,
+    1, -2,
+    7, 3, 2, 1, 0, 1, 4, 1,
+    2, 3, 0,
+    1, 0,
+    9, 4, 0, 2, 1, 2, 2, 2, 3, 2,
+    5, 4, 3, 2, 2, 4,
 ]
 
 
@@ -151,6 +177,24 @@ class NothingKeptTest(unittest.TestCase):
         replies = run(("create",), *[("get_polynomial", slot) for slot in range(4)])
         self.assertEqual(replies, [[0]] * 5)
 
+    def test_results_are_not_kept(self):
+        run(("create",), ("set_polynomial", 0, 1, [1, 1]), ("multiply", 0, 0, 1), ("derivative", 1, 2),
+            ("gcd", 0, 1, 3))
+        replies = run(("create",), ("summary",), ("largest_roots", 0), ("squarefree", 1, 2))
+        self.assertEqual(replies, [[0], [4, 0, 0, 0, 0], [0], [-33]])
+
+    def test_slots_hold_polynomials_of_their_own(self):
+        # what one slot was copied from may change without the other one
+        self.expect_all_slots(("multiply", 0, 1, 2), ("derivative", 2, 2))
+        self.expect_all_slots(("squarefree", 0, 2), ("derivative", 2, 2))
+        self.expect_all_slots(("gcd", 0, 0, 2), ("derivative", 2, 2))
+
+    def expect_all_slots(self, *calls):
+        settings = [("set_polynomial", 0, 1, [-2, 0, 1]), ("set_polynomial", 1, 1, [1])]
+        gets = [("get_polynomial", slot) for slot in range(4)]
+        replies = run(("create",), *settings, *calls, *gets)
+        self.assertEqual(replies[-4:], [[3, -2, 1, 0, 1, 1, 1], [1, 1, 1], [2, 0, 1, 2, 1], [0]])
+
     def test_the_same_list_again(self):
         calls = encoded(SESSION)
         first = answers(calls)
@@ -187,6 +231,16 @@ class BeforeCreateTest(CallTest):
             (("count_roots_between", 4, 1, 0, 1, 0), -11),
             (("count_roots_up_to", 4, 1, 0), -11),
             (("multiplicity", 4, 1, 0), -11),
+            (("root_floor", 4, 4294967295, 31), -11),
+            (("root_bound", 4), -11),
+            (("squarefree", 4, 4), -11),
+            (("gcd", 4, 4, 4), -11),
+            (("derivative", 4, 4), -11),
+            (("multiply", 4, 4, 4), -11),
+            (("power_sums", 4, 13), -11),
+            (("hermite_inertia", 4), -11),
+            (("first_newton_violation", 4), -11),
+            (("largest_roots", 31), -11),
         )
 
     def test_what_was_refused_is_not_stored(self):

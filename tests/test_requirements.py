@@ -1,11 +1,11 @@
-"""The document's requirements 1 and 2, and the counts once more by another theorem."""
+"""The document's requirements 1 to 5, and the counts once more by another theorem."""
 
 import itertools
 import random
 import unittest
 from fractions import Fraction
 
-from helper import CallTest, ask, at, between, fits, from_roots, value
+from helper import CallTest, ask, at, between, fits, from_roots, hermite, product, run, setting_call, value
 
 
 class ProductsTest(CallTest):
@@ -80,53 +80,162 @@ class SturmTest(CallTest):
                 self.check([Fraction(pool.randint(-30, 30), 6) for power in range(degree)] + [pool.choice((-1, 1))])
 
 
-def power_sums(polynomial, most):
-    """The power sums of all complex roots, by Newton's identities."""
-    lead = Fraction(polynomial[-1])
-    monic = [coefficient / lead for coefficient in reversed(polynomial)]
-    degree = len(polynomial) - 1
-    sums = [Fraction(degree)]
-    for k in range(1, most + 1):
-        total = -k * monic[k] if k <= degree else Fraction(0)
-        for place in range(1, min(k, degree + 1)):
-            total -= monic[place] * sums[k - place]
-        sums.append(total)
-    return sums
+def many_polynomials(seed, count):
+    """Polynomials of every degree up to 8: random ones, and products with multiple roots."""
+    pool = random.Random(seed)
+    factors = ([0, 1], [-1, 1], [1, 2], [-2, 3], [-2, 0, 1], [1, 0, 1], [1, 1, 1], [-2, 0, 0, 1], [1, -3, 0, 1])
+    found = []
+    for degree in range(9):
+        for times in range(count):
+            found.append([pool.randint(-5, 5) for power in range(degree)] + [pool.choice((-7, -1, 1, 2))])
+            found.append([pool.randint(-1000000, 1000000) for power in range(degree + 1)])
+    for times in range(6 * count):
+        polynomial = product([pool.choice(factors) for place in range(pool.randint(1, 4))])
+        if fits(polynomial):
+            found.append([pool.choice((1, -1, 3)) * coefficient for coefficient in polynomial])
+    return [polynomial for polynomial in found if len(polynomial) <= 9 and fits(polynomial)]
 
 
-def characteristic(matrix):
-    """The coefficients of the characteristic polynomial, from the highest power."""
-    size = len(matrix)
-    coefficients = [Fraction(1)]
-    current = [[Fraction(0)] * size for row in range(size)]
-    for step in range(1, size + 1):
-        for row in range(size):
-            current[row][row] += coefficients[-1]
-        current = [[sum(matrix[row][k] * current[k][column] for k in range(size)) for column in range(size)]
-                   for row in range(size)]
-        coefficients.append(-sum(current[row][row] for row in range(size)) / step)
-    return coefficients
+class HermiteTest(CallTest):
+    """Requirement 3."""
+
+    def check(self, polynomial):
+        inertia, distinct, roots, rooted = ask(polynomial, ("hermite_inertia", 0), ("count_distinct_roots", 0),
+                                               ("count_roots", 0), ("is_real_rooted", 0))
+        positive, negative = inertia
+        self.assertEqual([positive - negative], distinct, polynomial)
+        self.assertGreaterEqual(negative, 0, polynomial)
+        self.assertLessEqual(positive + negative, len(polynomial) - 1, polynomial)
+        if rooted == [1]:
+            self.assertEqual(negative, 0, polynomial)
+
+    def test_small_coefficients(self):
+        for degree in range(1, 6):
+            for polynomial in itertools.product((-1, 0, 1), repeat=degree):
+                self.check(polynomial + (1,))
+
+    def test_many(self):
+        for polynomial in many_polynomials(3, 12):
+            self.check(polynomial)
 
 
-def sign_changes(numbers):
-    """How often the sign changes, zeros left out."""
-    signs = [number > 0 for number in numbers if number != 0]
-    return len([None for first, second in zip(signs, signs[1:]) if first != second])
+class RealRootedTest(CallTest):
+    """Requirement 4."""
+
+    def check(self, polynomial):
+        """The derivatives are gone down to zero."""
+        calls = [("create",), setting_call(0, polynomial)]
+        for times in range(len(polynomial)):
+            calls += [("is_real_rooted", 0), ("first_newton_violation", 0), ("derivative", 0, 0)]
+        replies = run(*calls)[2:]
+        for place in range(0, len(replies), 3):
+            self.assertEqual(replies[place:place + 2], [[1], [0]], (polynomial, place // 3))
+        self.assertEqual(replies[-1], [0], polynomial)
+
+    def test_products_of_rational_roots(self):
+        pool = random.Random(4)
+        for degree in range(9):
+            for times in range(12):
+                roots = [pool.choice((0, 1, -1, 2, -3, Fraction(1, 2), Fraction(-1, 2))) for place in range(degree)]
+                self.check(from_roots(roots, pool.choice((1, -1)) * 2 ** degree))
+
+    def test_products_of_other_roots(self):
+        # each of these has real roots alone
+        factors = ([-2, 0, 1], [-1, -1, 1], [1, -3, 0, 1], [1, 0, -10, 0, 1], [0, 1], [-3, 2])
+        for chosen in itertools.combinations_with_replacement(factors, 3):
+            polynomial = product(chosen)
+            if len(polynomial) <= 9:
+                self.check(polynomial)
+                self.check([-coefficient for coefficient in polynomial])
+
+    def test_constants(self):
+        for constant in (1, -1, 1000000, Fraction(-1, 1000)):
+            self.check([constant])
+
+    def test_whatever_is_real_rooted(self):
+        found = 0
+        for polynomial in many_polynomials(5, 12):
+            if ask(polynomial, ("is_real_rooted", 0)) == [[1]]:
+                found += 1
+                self.check(polynomial)
+        self.assertGreater(found, 20)
+
+    def test_a_violation_shows_that_not_all_roots_are_real(self):
+        found = 0
+        for polynomial in many_polynomials(6, 12):
+            violation, rooted = ask(polynomial, ("first_newton_violation", 0), ("is_real_rooted", 0))
+            if violation != [0]:
+                found += 1
+                self.assertEqual(rooted, [0], polynomial)
+        self.assertGreater(found, 20)
 
 
-def inertia(matrix):
-    """How many positive and negative eigenvalues a symmetric matrix has, by Descartes' rule."""
-    coefficients = characteristic(matrix)
-    turned = [-number if place % 2 else number for place, number in enumerate(coefficients)]
-    return sign_changes(coefficients), sign_changes(turned)
+class RootFloorTest(CallTest):
+    """Requirement 5."""
 
+    BITS = range(31)
 
-def hermite(polynomial, weight):
-    """The inertia of Hermite's form with a polynomial weight of degree 0 or 1."""
-    degree = len(polynomial) - 1
-    sums = power_sums(polynomial, 2 * degree)
-    entries = [sum(Fraction(w) * sums[k + power] for power, w in enumerate(weight)) for k in range(2 * degree - 1)]
-    return inertia([[entries[row + column] for column in range(degree)] for row in range(degree)])
+    def floors(self, polynomial):
+        """For each number of bits the floors of all roots."""
+        count = ask(polynomial, ("count_roots", 0))[0][0]
+        questions = [("root_floor", 0, k, bits) for bits in self.BITS for k in range(count)]
+        replies = ask(polynomial, *questions)
+        self.assertEqual([reply[0] for reply in replies], [0] * len(questions))
+        return [[reply[1] for reply in replies[bits * count:(bits + 1) * count]] for bits in self.BITS]
+
+    def counts_up_to(self, polynomial, points):
+        """The answers of count_roots_up_to by point, of those points that it takes."""
+        taken = sorted({Fraction(point) for point in points})
+        taken = [point for point in taken if abs(point.numerator) <= 1000000 and point.denominator <= 1000]
+        replies = ask(polynomial, *[at("count_roots_up_to", point) for point in taken])
+        return {point: reply[0] for point, reply in zip(taken, replies)}
+
+    def points_around(self, number, bits):
+        """Points at and near to number / 2 ^ bits, whose denominators are small enough."""
+        point = Fraction(number, 2 ** bits)
+        points = [point, point + Fraction(1, 2 ** bits)]
+        return points + [near.limit_denominator(limit) for near in points for limit in (1, 10, 1000)]
+
+    def check(self, polynomial):
+        by_bits = self.floors(polynomial)
+        points = []
+        for bits, floors in enumerate(by_bits):
+            self.assertEqual(floors, sorted(floors), (polynomial, bits))
+            for number in floors:
+                points += self.points_around(number, bits)
+        counts = self.counts_up_to(polynomial, points)
+        for bits, floors in enumerate(by_bits):
+            for point, count in counts.items():
+                # the root lies in [floor / 2^bits, (floor + 1) / 2^bits)
+                scaled = point * 2 ** bits
+                surely = len([number for number in floors if number + 1 <= scaled])
+                perhaps = len([number for number in floors if number <= scaled])
+                self.assertLessEqual(surely, count, (polynomial, bits, point))
+                self.assertGreaterEqual(perhaps, count, (polynomial, bits, point))
+            for number, finest in zip(floors, by_bits[-1]):
+                self.assertEqual(number, finest >> (30 - bits), (polynomial, bits))
+
+    def test_many(self):
+        for polynomial in many_polynomials(7, 3):
+            self.check(polynomial)
+
+    def test_rational_roots(self):
+        for roots in ([0], [1, 2, 3], [-1, Fraction(-1, 2), Fraction(1, 4)], [Fraction(1, 3), Fraction(-1, 3)],
+                      [Fraction(-7, 8)] * 2, [Fraction(5, 512), Fraction(-5, 512)], [Fraction(999, 1000)], [0, 0, -2]):
+            scale = 1
+            for root in roots:
+                scale *= Fraction(root).denominator
+            self.check(from_roots(roots, scale))
+
+    def test_sign_of_the_value(self):
+        # the value changes its sign between both ends, for roots that lie alone and aren't dyadic
+        for polynomial in ([-2, 0, 1], [1, -3, 0, 1], [1, 0, -10, 0, 1], [-1, -1, 0, 0, 0, 1], [-999983, 0, 0, 7]):
+            for bits, floors in enumerate(self.floors(polynomial)):
+                for number in floors:
+                    if floors.count(number) == 1:
+                        low = value(polynomial, Fraction(number, 2 ** bits))
+                        high = value(polynomial, Fraction(number + 1, 2 ** bits))
+                        self.assertLess(low * high, 0, (polynomial, bits, number))
 
 
 class SecondMethodTest(CallTest):
