@@ -232,6 +232,25 @@ class ErrorsTest(CallTest):
                 (("power_sums", 3, power), [power + 1, 1, 1] + [-1, 1, 1, 1] * (power // 2)),
             )
 
+    def test_the_last_slot_is_taken_in_each_place(self):
+        self.expect(
+            *SETTINGS,
+            (("root_floor", 3, 0, 2), [0, -4]),
+            (("root_bound", 3), 2),
+            (("power_sums", 3, 1), [2, 1, 1, -1, 1]),
+            (("hermite_inertia", 3), [1, 0]),
+            (("first_newton_violation", 3), 0),
+            (("multiply", 3, 0, 3), [4, 2, 1, 2, 1, -1, 1, -1, 1]),
+            (("multiply", 0, 3, 1), [6, -4, 1, -4, 1, 4, 1, 4, 1, -1, 1, -1, 1]),
+            (("squarefree", 1, 3), [4, -2, 1, -2, 1, 1, 1, 1, 1]),
+            (("gcd", 3, 0, 2), [3, -2, 1, 0, 1, 1, 1]),
+            (("gcd", 0, 3, 3), [3, -2, 1, 0, 1, 1, 1]),
+            (("derivative", 3, 0), [2, 0, 1, 2, 1]),
+            (("squarefree", 3, 1), [3, -2, 1, 0, 1, 1, 1]),
+            (("derivative", 0, 3), [1, 2, 1]),
+            (("summary",), [4, 2, 3, 3, 1]),
+        )
+
     def test_intervals_that_just_hold(self):
         for ends in ((997, 998, 998, 999), (-998, 999, -997, 998), (999999, 1, 1000000, 1),
                      (-1000000, 1, -999999, 1), (-1, 1000, 0, 1), (0, 1000, 1, 1000), (1, 3, 1, 2), (-1, 2, -1, 3)):

@@ -37,7 +37,7 @@ class LimitTest(CallTest):
             self.assertEqual(replies[-2:], [shown(result)] * 2)
 
     def expect_too_large(self, settings, calls):
-        """Calls that are refused and leave every slot as it was."""
+        """Calls that are refused and leave every slot as it was; without their target -2 goes ahead."""
         gets = [("get_polynomial", slot) for slot in range(4)]
         replies = run(("create",), *settings, *gets)
         for setting, reply in zip(settings, replies[1:]):
@@ -48,6 +48,9 @@ class LimitTest(CallTest):
                 self.assertEqual(run(("create",), *settings, call, *gets)[-5:], [[-75]] + before)
         all_replies = run(("create",), *settings, *calls, *gets)[1 + len(settings):]
         self.assertEqual(all_replies, [[-75]] * len(calls) + before)
+        without_target = [call[:-1] + (missing,) for call in calls for missing in (4, 4294967295)]
+        all_replies = run(("create",), *settings, *without_target, *gets)[1 + len(settings):]
+        self.assertEqual(all_replies, [[-2]] * len(without_target) + before)
 
     def test_the_numbers(self):
         self.assertEqual([prod(BELOW), prod(EXACT), prod(ABOVE)], [LIMIT - 2510, LIMIT, LIMIT + 9645])
@@ -150,6 +153,20 @@ class MultiplyNumeratorTest(LimitTest):
         # here they cancel
         settings = building(0, 1, [[factor] for factor in EXACT] + [[1, 1]]) + [setting_call(1, [1, -1])]
         self.expect_result(settings, ("multiply", 0, 1, 0), [LIMIT, 0, -LIMIT])
+
+    def test_one_more_than_the_limit(self):
+        # 10^30 + 1 has factors above 1000000, so that it comes about as a sum alone
+        factors = [[20177, -161], [20204, 165], [1, 406160], [101], [3541], [9901], [27961]]
+        before = product(factors)
+        self.assertEqual(61 * before[1], LIMIT + 1)
+        self.assertLess(61 * max(abs(before[place]) for place in (0, 2, 3)), LIMIT)
+        settings = building(0, 1, factors)
+        for last in (60, -60):
+            result = [last * coefficient for coefficient in before]
+            self.expect_result(settings + [setting_call(1, [last])], ("multiply", 0, 1, 2), result)
+        for last in (61, -61):
+            calls = [("multiply", 0, 1, target) for target in range(4)]
+            self.expect_too_large(settings + [setting_call(1, [last])], calls)
 
 
 class MultiplyDenominatorTest(LimitTest):
